@@ -129,7 +129,7 @@ class TestCells(unittest.TestCase):
 
 
 class TestLines(unittest.TestCase):
-    def check(self, final, change, with_home=True):
+    def check(self, final, change):
         """change(part, n) is what becomes of a part of the lines: from that of the cursor to the bottom margin."""
         for margins, (top, bottom) in MARGINS.items():
             for row, column in [(row, column) for row in range(ROWS) for column in (0, 3, 6)]:
