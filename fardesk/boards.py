@@ -21,6 +21,8 @@ class Board:
 
     def begin(self, rows, columns):
         """Make everything as at first."""
+        # A cursor needs a line, and a size beyond the ranges is no error.
+        rows = max(1, rows)
         self.lines = [blank_line(columns)] * rows
         self.hidden = [blank_line(columns)] * rows
         self.other = False
@@ -65,6 +67,7 @@ class Board:
 
     def resize(self, rows, columns):
         """Take another size, or the same one again."""
+        rows = max(1, rows)
         self.stops = resized_stops(self.stops, len(self.lines[0]), columns)
         self.lines = list(resized_lines(self.lines, rows, columns))
         self.hidden = list(resized_lines(self.hidden, rows, columns))

@@ -296,6 +296,28 @@ class TestPieces(unittest.TestCase):
                          CSI + "1;4R" + CSI + "?6c" + CSI + "0n" + CSI + "1;5R")
 
 
+class TestSizesBeyondTheRanges(unittest.TestCase):
+    STRING = ("ab\xc4c\r\n\t\x08" + ESC + "7" + ESC + "M" + ESC + "8" + CSI + "4h\xc5d" + CSI + "2;3H" + CSI + "J" + CSI
+              + "1J" + CSI + "@" + CSI + "P" + CSI + "X" + CSI + "L" + CSI + "M" + CSI + "S" + CSI + "T" + CSI + "I" + CSI
+              + "Z" + CSI + "r" + CSI + "?1049hx" + CSI + "?1049l" + CSI + "6n")
+
+    def test_they_are_no_errors(self):
+        for rows in (0, 1, 12, 13, 20):
+            for columns in (0, 1, 2, 40, 41, 60):
+                terminal = Terminal(rows, columns)
+                terminal.write(text(self.STRING))
+                for size in ((columns, rows), (0, 0), (13, 41), (3, 1)):
+                    terminal.resize(*size)
+                    terminal.write(text(self.STRING + ESC + "c" + self.STRING))
+
+    def test_greater_sizes_are_taken_as_they_are(self):
+        for size in ((13, 41), (20, 60)):
+            self.assertEqual(Terminal(*size).screen(), blank_screen(*size))
+            terminal = Terminal(2, 8)
+            terminal.resize(*size)
+            self.assertEqual(terminal.screen(), blank_screen(*size))
+
+
 class TestAnyText(unittest.TestCase):
     def test_the_result_is_always_a_screen(self):
         signs = text("ab\xc4\xff\x80\x08\t\n\r[]?;01248hlmrHJKLMPSTXABCD@dgIZtnc" + ESC * 9 + "[[[[[[[[")
