@@ -34,6 +34,12 @@ def are_screen_lines(lines):
     return True
 
 
+def size_of(screen):
+    """Return the number of rows and the number of columns of a screen."""
+    lines = screen[0]
+    return len(lines), len(lines[0])
+
+
 def is_place(place, many):
     """Return whether a whole number is from 0 to many - 1; a bool is not a whole number."""
     return not isinstance(place, bool) and 0 <= place < many

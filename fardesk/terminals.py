@@ -4,6 +4,7 @@ from fardesk.boards import Board
 from fardesk.controls import do_command, do_control, do_escape
 from fardesk.keys import key_text, pasted_text
 from fardesk.scanner import scan
+from fardesk.screens import size_of
 from fardesk.sequences import do_sequence
 
 
@@ -87,8 +88,8 @@ class Terminal:
 
 def showing(screen):
     """Return a new plain terminal with a screen."""
-    lines = screen[0]
-    terminal = Terminal(len(lines), len(lines[0]))
+    rows, columns = size_of(screen)
+    terminal = Terminal(rows, columns)
     board = terminal.board
     board.take_screen(screen)
     return terminal

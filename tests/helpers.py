@@ -66,3 +66,13 @@ def filled_picture(rows, columns):
 def at(row, column):
     """The sequence that brings the cursor to a cell (with origin off)."""
     return f"{CSI}{row + 1};{column + 1}H"
+
+
+def look(rows, columns, string=""):
+    """The screen of a terminal that has read a string."""
+    return made(rows, columns, string).screen()
+
+
+def string_of(codes):
+    """A text as a string."""
+    return "".join(chr(character) for character in codes)

@@ -2,12 +2,14 @@
 
 import ast
 import builtins
+import re
 import unittest
 from pathlib import Path
 
 PACKAGE = Path(__file__).resolve().parent.parent / "fardesk"
 BARRED = ("register", "mro", "elements", "open", "input", "law", "version_info", "with_traceback", "add_note")
-WORDS = ("typing", "enum", "dataclass", "overload", "contextmanager", "_wall", "namedtuple")
+PARTS_OF_WORDS = ("dataclass", "overload", "contextmanager", "_wall")
+WORDS = ("typing", "enum", "Enum", "Flag", "Generic", "Protocol", "namedtuple", "NamedTuple")
 STATEMENTS = (ast.Global, ast.AsyncFunctionDef, ast.Import, ast.Await)
 
 
@@ -44,8 +46,10 @@ class TestLanguage(unittest.TestCase):
             for line in text.split("\n"):
                 self.assertLessEqual(len(line), 120, (path, line))
                 self.assertTrue(all(" " <= sign <= "~" for sign in line), (path, line))
+            for part in PARTS_OF_WORDS:
+                self.assertNotIn(part, text, path)
             for word in WORDS:
-                self.assertNotIn(word, text, path)
+                self.assertNotIn(word, re.findall(r"\w+", text), path)
 
     def test_functions_are_short(self):
         for path, tree in trees():
