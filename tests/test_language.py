@@ -81,6 +81,27 @@ class TestLanguage(unittest.TestCase):
                     for alias in node.names:
                         self.assertIn(alias.name, defined[node.module], path)
 
+    def test_no_two_files_import_from_each_other(self):
+        imports = {}
+        for path, tree in trees():
+            imports["fardesk." + path.stem] = [node.module for node in tree.body if isinstance(node, ast.ImportFrom)]
+        # Files that import only from files that are done are done, too; a circle never is.
+        done = []
+        while len(done) < len(imports):
+            ready = [name for name in imports if name not in done and all(of in done for of in imports[name])]
+            self.assertTrue(ready, sorted(name for name in imports if name not in done))
+            done.extend(ready)
+
+    def test_modules_contain_only_what_they_may(self):
+        for path, tree in trees():
+            self.assertIsNotNone(ast.get_docstring(tree), path)
+            for node in tree.body[1:]:
+                self.assertIsInstance(node, ast.ImportFrom | ast.FunctionDef | ast.ClassDef | ast.Assign, path)
+            for node in ast.walk(tree):
+                if isinstance(node, ast.FunctionDef | ast.ClassDef):
+                    self.assertEqual(node.decorator_list, [], path)
+                    self.assertTrue(ast.get_docstring(node) or node.name == "__init__", (path, node.name))
+
     def test_names(self):
         for path, tree in trees():
             imported = [alias.name for node in tree.body if isinstance(node, ast.ImportFrom) for alias in node.names]
