@@ -47,3 +47,14 @@ def next_message(association, stream, codes):
     if stream is not None:
         place = len(of_stream(association.given, stream))
     return len(association.given) + 1, stream, place, tuple(codes)
+
+
+def gathered(up_to, numbers):
+    """Return the number up to which all are there, and the ascending list of the others beyond it.
+
+    All numbers up to `up_to` are there, and those of the list, which may have doubles and any order.
+    """
+    others = [number for number in sorted(set(numbers)) if number > up_to]
+    while others and others[0] == up_to + 1:
+        up_to = others.pop(0)
+    return up_to, others
