@@ -1,6 +1,6 @@
 """Programs: lists of rules that tell what is written when a character is read."""
 
-from fardesk.chunks import is_number
+from fardesk.chunks import are_numbers, is_number
 from fardesk.errors import InvalidArgument
 
 MOST_RULES = 40
@@ -11,16 +11,6 @@ MOST_CHARACTER = 255
 SAME = 256
 
 
-def is_answer(answer):
-    """Return whether a value is the answer of a rule."""
-    if not isinstance(answer, tuple) or len(answer) > MOST_ANSWER:
-        return False
-    for number in answer:
-        if not is_number(number, SAME):
-            return False
-    return True
-
-
 def is_rule(rule):
     """Return whether a value is a rule."""
     if not isinstance(rule, tuple) or len(rule) != 4:
@@ -28,7 +18,9 @@ def is_rule(rule):
     state, character, after, answer = rule
     if not is_number(state, MOST_STATE) or not is_number(after, MOST_STATE):
         return False
-    return (character is None or is_number(character, MOST_CHARACTER)) and is_answer(answer)
+    if character is not None and not is_number(character, MOST_CHARACTER):
+        return False
+    return are_numbers(answer, MOST_ANSWER, SAME)
 
 
 def filled(answer, character):

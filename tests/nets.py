@@ -7,9 +7,9 @@ SIDES = ("left", "right")
 
 
 def told(network):
-    """All that a network tells, but its packets."""
-    return [(network.status(side), network.association(side), network.given(side), network.received(side),
-             network.reports(side)) for side in SIDES] + [network.packets_sent(), network.has_room()]
+    """All that a network tells, but its packets, in lists that nobody else has."""
+    return [(network.status(side), network.association(side), list(network.given(side)), list(network.received(side)),
+             list(network.reports(side))) for side in SIDES] + [network.packets_sent(), network.has_room()]
 
 
 def everything(network):

@@ -107,6 +107,15 @@ class TestTimingOut(ActCase):
                 self.assertEqual(self.chunks(network, network.time_out, side), flight + last)
                 self.assertEqual(closing_of(network, side), closing)
 
+    def test_a_single_change_of_addresses(self):
+        for side in SIDES:
+            network = joined(side)
+            network.set_addresses(side, (31,))
+            for _ in range(2):
+                self.assertEqual(self.chunks(network, network.time_out, side), [("addresses", 1, (31,))])
+            arrives(network, side, ("addresses_ack", 1))
+            self.assertEqual(self.chunks(network, network.time_out, side), [])
+
     def test_in_flight_when_closing_was_sent(self):
         # Shutdown arrives while messages are in flight, and closing is received: nothing but them is repeated.
         network = joined("left")

@@ -10,6 +10,14 @@ PACKAGE = Path(__file__).resolve().parent.parent / "fardesk"
 BARRED = ("register", "mro", "elements", "open", "input", "law", "version_info", "with_traceback", "add_note")
 PARTS_OF_WORDS = ("dataclass", "overload", "contextmanager", "_wall")
 WORDS = ("typing", "enum", "Enum", "Flag", "Generic", "Protocol", "namedtuple", "NamedTuple")
+CALLED_BUILTINS = (
+    "len", "range", "enumerate", "zip", "min", "max", "sum", "abs", "sorted", "reversed", "int", "str", "bool", "list",
+    "tuple", "dict", "set", "isinstance", "ord", "repr", "any", "all", "divmod",
+)
+CALLED_METHODS = (
+    "append", "clear", "copy", "count", "endswith", "extend", "find", "get", "index", "insert", "items", "join", "keys",
+    "pop", "remove", "replace", "reverse", "setdefault", "split", "startswith", "strip", "update", "values",
+)
 STATEMENTS = (ast.Global, ast.AsyncFunctionDef, ast.Import, ast.Await)
 
 
@@ -101,6 +109,24 @@ class TestLanguage(unittest.TestCase):
                 if isinstance(node, ast.FunctionDef | ast.ClassDef):
                     self.assertEqual(node.decorator_list, [], path)
                     self.assertTrue(ast.get_docstring(node) or node.name == "__init__", (path, node.name))
+
+    def test_calls_of_builtins_and_of_their_methods(self):
+        own = {node.name for _, tree in trees() for node in ast.walk(tree) if isinstance(node, ast.FunctionDef)}
+        for path, tree in trees():
+            for node in ast.walk(tree):
+                if isinstance(node, ast.Call) and isinstance(node.func, ast.Attribute):
+                    self.assertIn(node.func.attr, own.union(CALLED_METHODS), (path, node.lineno))
+                elif isinstance(node, ast.Call) and hasattr(builtins, node.func.id):
+                    self.assertIn(node.func.id, CALLED_BUILTINS, (path, node.lineno))
+
+    def test_no_name_is_a_method_and_an_attribute_of_a_class(self):
+        for path, tree in trees():
+            for made in tree.body:
+                if isinstance(made, ast.ClassDef):
+                    methods = {node.name for node in made.body if isinstance(node, ast.FunctionDef)}
+                    attributes = {node.attr for node in ast.walk(made)
+                                  if isinstance(node, ast.Attribute) and isinstance(node.ctx, ast.Store)}
+                    self.assertEqual(methods & attributes, set(), (path, made.name))
 
     def test_names(self):
         for path, tree in trees():
